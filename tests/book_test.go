@@ -666,20 +666,23 @@ func TestReachOfVeryLargeBooks(t *testing.T) {
 	}
 }
 
-func TestBookOk(t *testing.T) {
+// goodBook returns a valid book with a page of every sort; page 5 is not
+// reachable, and page 4 is unused.
+func goodBook() impl.Book {
+	return book(2, used(leaf(entries(5, 6)...)), used(leaf()), to(3, 0), to(1), unused(impl.Node{}), used(leaf(entries(999)...)))
+}
+
+// changeOfBook is a change of goodBook, and whether the book is valid then.
+type changeOfBook struct {
+	name  string
+	fault func(b *impl.Book)
+	want  bool
+}
+
+func changesOfGoodBook() []changeOfBook {
 	x := used(leaf())
 	gone := unused(impl.Node{})
-	good := func() impl.Book {
-		return book(2, used(leaf(entries(5, 6)...)), used(leaf()), to(3, 0), to(1), gone, used(leaf(entries(999)...)))
-	}
-	if !impl.BookOk(good()) {
-		t.Fatalf("BookOk(%v) = false", good())
-	}
-	cases := []struct {
-		name  string
-		fault func(b *impl.Book)
-		want  bool
-	}{
+	return []changeOfBook{
 		{"no pages", func(b *impl.Book) { b.L = nil }, false},
 		{"no pages within the length", func(b *impl.Book) { b.L = b.L[:0] }, false},
 		{"one page", func(b *impl.Book) { b.Root, b.L = 0, b.L[:1] }, true},
@@ -753,8 +756,14 @@ func TestBookOk(t *testing.T) {
 		{"pages that are not reachable refer to each other", func(b *impl.Book) { b.L[4], b.L[5] = to(5, 0), to(4, 0) }, true},
 		{"a leaf's Ids are numbers of pages", func(b *impl.Book) { b.L[0].N.L = entries(2, 3, 1, 4) }, true},
 	}
-	for _, c := range cases {
-		b := good()
+}
+
+func TestBookOk(t *testing.T) {
+	if !impl.BookOk(goodBook()) {
+		t.Fatalf("BookOk(%v) = false", goodBook())
+	}
+	for _, c := range changesOfGoodBook() {
+		b := goodBook()
 		c.fault(&b)
 		if got := impl.BookOk(b); got != c.want {
 			t.Errorf("%s: BookOk(%v) = %v", c.name, b, got)
